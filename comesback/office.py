@@ -6,6 +6,7 @@ MOST_PIECES = 12
 MOST_PACKAGES = 10
 MOST_AT_ONCE = 8
 NO_TRANSLATION = 0
+THEIRS_CHOSEN = 1
 
 CALL_PIECE = 0
 CALL_TEXT = 1
@@ -13,22 +14,29 @@ CALL_GONE = 2
 CALL_PUT = 3
 CALL_SEND = 4
 CALL_BACK = 5
+CALL_OFF = 6
+CALL_CHOOSE = 7
+CALL_OPEN = 8
+CALL_PIECES = 9
+CALL_PACKAGE = 10
+CALL_OUT = 11
 
 # By the call's number; a row, where a call has one, stands behind these.
-WHOLE_NUMBERS = (2, 2, 1, 2, 0, 1)
+WHOLE_NUMBERS = (2, 2, 1, 2, 0, 1, 1, 3, 0, 0, 1, 1)
 
 REFUSED_NUMBERS = -1
 REFUSED_NO_SUCH = -2
 REFUSED_NOT_IN_IT = -3
 REFUSED_THERE_ALREADY = -4
 REFUSED_FULL = -5
+REFUSED_NO_MORE = -6
 
-WAS_OURS_TOO = 0
-WAS_THE_BASE = 1
-WAS_TAKEN = 2
-WAS_CHANGED_AT_BOTH = 3
-WAS_OF_OTHER_TEXT = 4
-WAS_OF_GONE = 5
+OURS_TOO = 0
+THE_BASE = 1
+TAKEN = 2
+NOT_OURS = 3
+OF_OTHER_TEXT = 4
+OF_GONE = 5
 
 
 class Piece:
@@ -45,6 +53,14 @@ class Sent:
     def __init__(self, text, base):
         self.text = text
         self.base = base
+
+
+class Package:
+    """What was sent, by name, in the order in which the names were told."""
+
+    def __init__(self, sent):
+        self.sent = sent
+        self.given_up = False
 
 
 class Opened:
@@ -120,7 +136,7 @@ class Office:
         for name in names:
             piece = self.pieces[name]
             sent[name] = Sent(piece.text, piece.translation)
-        self.packages.append(sent)
+        self.packages.append(Package(sent))
         return [len(self.packages) - 1]
 
     def take_back(self, package, pieces):
@@ -130,30 +146,89 @@ class Office:
             return [REFUSED_NUMBERS]
         if package >= len(self.packages):
             return [REFUSED_NO_SUCH]
-        if not all_among(names, self.packages[package]):
+        asked = self.packages[package]
+        if asked.given_up:
+            return [REFUSED_NO_MORE]
+        if not all_among(names, asked.sent):
             return [REFUSED_NOT_IN_IT]
         outcomes = []
         for at in range(len(names)):
             outcomes.append(self.take_back_one(package, names[at], translations[at]))
-        return [outcomes.count(WAS_TAKEN)] + outcomes
+        return [outcomes.count(TAKEN)] + outcomes
 
     def take_back_one(self, package, name, theirs):
-        sent = self.packages[package][name]
+        sent = self.packages[package].sent[name]
         piece = self.pieces.get(name)
         outcome = outcome_of(piece, sent, theirs)
         sent.base = theirs
-        if outcome == WAS_THE_BASE:
+        if outcome == THE_BASE:
             return outcome
         # What is open instead of another one is the latest, so the earlier one never keeps its place.
         self.close_opened(package, name)
-        if outcome == WAS_TAKEN:
+        if outcome == TAKEN:
             piece.translation = theirs
-        elif outcome != WAS_OURS_TOO:
+        elif outcome != OURS_TOO:
             self.opened.append(Opened(name, package, sent.text, theirs))
         return outcome
 
     def close_opened(self, package, name):
         self.opened = [one for one in self.opened if one.package != package or one.name != name]
+
+    def find_opened(self, package, name):
+        """What is open of that piece by that package, or None."""
+        for one in self.opened:
+            if one.package == package and one.name == name:
+                return one
+        return None
+
+    def give_up(self, package):
+        if package >= len(self.packages):
+            return [REFUSED_NO_SUCH]
+        asked = self.packages[package]
+        if asked.given_up:
+            return [REFUSED_NO_MORE]
+        # It keeps its place among the packages, so that its number is not given again.
+        asked.given_up = True
+        return [len([one for one in self.packages if not one.given_up])]
+
+    def choose(self, name, package, choice):
+        chosen = self.find_opened(package, name)
+        if chosen is None:
+            return [REFUSED_NO_SUCH]
+        if choice == THEIRS_CHOSEN and name not in self.pieces:
+            return [REFUSED_NO_MORE]
+        self.close_opened(package, name)
+        if choice == THEIRS_CHOSEN:
+            piece = self.pieces[name]
+            piece.translation = chosen.theirs
+        return self.how_it_stands()
+
+    def tell_opened(self):
+        told = [len(self.opened)]
+        for one in self.opened:
+            now = beside_ours(self.pieces.get(one.name), one.text, one.theirs)
+            told.extend([one.name, one.package, one.text, one.theirs, now])
+        return told
+
+    def tell_pieces(self):
+        told = [len(self.pieces)]
+        for name, piece in self.pieces.items():
+            told.extend([name, piece.text, piece.translation])
+        return told
+
+    def tell_package(self, package):
+        if package >= len(self.packages):
+            return [REFUSED_NO_SUCH]
+        asked = self.packages[package]
+        told = [1 if asked.given_up else 0, len(asked.sent)]
+        for name, sent in asked.sent.items():
+            told.extend([name, sent.text, sent.base])
+        return told
+
+    def tell_out(self, name):
+        # A piece that is gone is still out, so only the packages are asked.
+        numbers = [at for at, one in enumerate(self.packages) if name in one.sent and not one.given_up]
+        return [len(numbers)] + numbers
 
 
 def fit_together(names):
@@ -165,19 +240,25 @@ def all_among(names, known):
     return all([name in known for name in names])
 
 
+def beside_ours(piece, text, theirs):
+    """How theirs, of the text that was sent, stands beside the piece at home; piece is None when it is gone."""
+    if piece is None:
+        return OF_GONE
+    if piece.text != text:
+        return OF_OTHER_TEXT
+    if piece.translation == theirs:
+        return OURS_TOO
+    return NOT_OURS
+
+
 def outcome_of(piece, sent, theirs):
     """What a piece of a package is when it comes back; piece is None when it is gone."""
     if theirs == sent.base:
-        return WAS_THE_BASE
-    if piece is None:
-        return WAS_OF_GONE
-    if piece.text != sent.text:
-        return WAS_OF_OTHER_TEXT
-    if piece.translation == theirs:
-        return WAS_OURS_TOO
-    if piece.translation == sent.base:
-        return WAS_TAKEN
-    return WAS_CHANGED_AT_BOTH
+        return THE_BASE
+    outcome = beside_ours(piece, sent.text, theirs)
+    if outcome == NOT_OURS and piece.translation == sent.base:
+        return TAKEN
+    return outcome
 
 
 def split_calls(calls):
@@ -209,7 +290,19 @@ def answer_call(office, call, numbers, row):
         return office.put_translation(numbers[0], numbers[1])
     if call == CALL_SEND:
         return office.send_package(row)
-    return office.take_back(numbers[0], row)
+    if call == CALL_BACK:
+        return office.take_back(numbers[0], row)
+    if call == CALL_OFF:
+        return office.give_up(numbers[0])
+    if call == CALL_CHOOSE:
+        return office.choose(numbers[0], numbers[1], numbers[2])
+    if call == CALL_OPEN:
+        return office.tell_opened()
+    if call == CALL_PIECES:
+        return office.tell_pieces()
+    if call == CALL_PACKAGE:
+        return office.tell_package(numbers[0])
+    return office.tell_out(numbers[0])
 
 
 def answers(calls):

@@ -25,10 +25,38 @@ def send(*names):
     return [4, len(names), *names]
 
 
-def back(package, *pieces):
-    """pieces: a pair (name, their translation) each."""
-    row = [number for pair in pieces for number in pair]
-    return [5, package, len(row), *row]
+def back(number, *pairs):
+    """pairs: the name and their translation, one pair for each piece."""
+    row = [one for pair in pairs for one in pair]
+    return [5, number, len(row), *row]
+
+
+def off(number):
+    return [6, number]
+
+
+def choose_theirs(name, number):
+    return [7, name, number, 1]
+
+
+def choose_ours(name, number):
+    return [7, name, number, 0]
+
+
+def opened():
+    return [8]
+
+
+def pieces():
+    return [9]
+
+
+def package(number):
+    return [10, number]
+
+
+def out(name):
+    return [11, name]
 
 
 def line(*calls):
@@ -57,3 +85,27 @@ def last(*calls):
 
 def pieces_told(how_many):
     return [piece(name, 500 + name) for name in range(how_many)]
+
+
+def rows_of(answered, width):
+    """What an answer tells of each, behind how many: a tuple of that many numbers each."""
+    numbers = answered[1:]
+    if len(numbers) != answered[0] * width:
+        raise AssertionError(f"not {width} numbers for each: {answered}")
+    return [tuple(numbers[at:at + width]) for at in range(0, len(numbers), width)]
+
+
+def open_behind(*calls):
+    """Name, package, the text that was sent, theirs and how it is now, of all that is open behind the calls."""
+    return rows_of(last(*calls, opened()), 5)
+
+
+def pieces_behind(*calls):
+    """Name, text and translation of all pieces behind the calls."""
+    return rows_of(last(*calls, pieces()), 3)
+
+
+def all_seen(*calls):
+    """All that an office tells of itself behind the calls, each question in a line of its own."""
+    questions = [opened(), pieces(), *[package(number) for number in range(11)], *[out(name) for name in range(12)]]
+    return [last(*calls, question) for question in questions]

@@ -3,8 +3,9 @@
 import itertools
 import unittest
 
-from comesback.office import Office, answer_call, split_calls
-from lines import ask, back, gone, last, line, piece, put, send, text
+from lines import (
+    all_seen, ask, back, gone, last, open_behind, package, piece, pieces_behind, put, rows_of, send, text,
+)
 
 # Changes nothing: to see behind a call that doesn't tell how it stands.
 STANDS = text(90, 1)
@@ -19,18 +20,18 @@ def stands(*calls):
 
 def what_is_open(*calls):
     """Name, package, the text that was sent and theirs of all that is open, in its order."""
-    office = Office()
-    for call, numbers, row in split_calls(line(*calls)):
-        answer_call(office, call, numbers, row)
-    return [(one.name, one.package, one.text, one.theirs) for one in office.opened]
+    return [row[:4] for row in open_behind(*calls)]
 
 
-def translation_of(name, package, *calls):
-    """The piece's translation behind the calls, found by what comes back as the base of a new package."""
-    for number in range(10):
-        if last(*calls, send(name), back(package, (name, number))) == [0, 1]:
-            return number
-    return None
+def translation_of(name, *calls):
+    """The piece's translation behind the calls."""
+    return {row[0]: row[2] for row in pieces_behind(*calls)}[name]
+
+
+def base_of(name, number, *calls):
+    """The piece's base in the package behind the calls."""
+    told = last(*calls, package(number))[1:]
+    return {row[0]: row[2] for row in rows_of(told, 3)}[name]
 
 
 class OutcomeTest(unittest.TestCase):
@@ -66,19 +67,19 @@ class OutcomeTest(unittest.TestCase):
     def test_its_text_is_another_one_and_ours_is_the_base(self):
         calls = (*self.SENT, text(1, 4), put(1, 6), back(0, (1, 7)))
         self.assertEqual(last(*calls), [0, 4])
-        self.assertEqual(translation_of(1, 1, *calls), 6)
+        self.assertEqual(translation_of(1, *calls), 6)
 
     def test_ours_is_theirs(self):
         calls = (*self.SENT, put(1, 7), back(0, (1, 7)))
         self.assertEqual(last(*calls), [0, 0])
         self.assertEqual(stands(*calls), [1, 1, 0])
-        self.assertEqual(translation_of(1, 1, *calls), 7)
+        self.assertEqual(translation_of(1, *calls), 7)
 
     def test_taken(self):
         calls = (*self.SENT, back(0, (1, 7)))
         self.assertEqual(last(*calls), [1, 2])
         self.assertEqual(stands(*calls), [1, 1, 0])
-        self.assertEqual(translation_of(1, 1, *calls), 7)
+        self.assertEqual(translation_of(1, *calls), 7)
 
     def test_taken_as_the_first_translation(self):
         calls = (piece(1, 5), send(1), back(0, (1, 7)))
@@ -95,7 +96,7 @@ class OutcomeTest(unittest.TestCase):
         self.assertEqual(last(*calls), [0, 3])
         self.assertEqual(stands(*calls), [1, 1, 1])
         self.assertEqual(what_is_open(*calls), [(1, 0, 5, 7)])
-        self.assertEqual(translation_of(1, 1, *calls), 8)
+        self.assertEqual(translation_of(1, *calls), 8)
 
     def test_all_small_cases(self):
         homes = ("there", "other text", "gone")
@@ -153,16 +154,17 @@ class BaseTest(unittest.TestCase):
             twice = (*once, back(0, (1, 7)))
             self.assertEqual(last(*twice), [0, 1])
             self.assertEqual(stands(*twice), stands(*once))
-            self.assertEqual(what_is_open(*twice), what_is_open(*once))
+            self.assertEqual(all_seen(*twice), all_seen(*once))
 
     def test_twice_with_something_put_between(self):
         calls = (piece(1, 5), send(1), back(0, (1, 7)), put(1, 8), back(0, (1, 7)))
         self.assertEqual(last(*calls), [0, 1])
-        self.assertEqual(translation_of(1, 1, *calls), 8)
+        self.assertEqual(translation_of(1, *calls), 8)
 
     def test_theirs_is_the_base_whatever_it_was(self):
         for meanwhile in ([put(1, 7)], [], [put(1, 8)], [text(1, 4)], [gone(1)]):
             calls = [piece(1, 5), put(1, 6), send(1), *meanwhile, back(0, (1, 7))]
+            self.assertEqual(base_of(1, 0, *calls), 7)
             self.assertEqual(last(*calls, back(0, (1, 7))), [0, 1])
             self.assertNotEqual(last(*calls, back(0, (1, 6))), [0, 1])
 
@@ -211,8 +213,8 @@ class SeveralTest(unittest.TestCase):
 
     def test_each_has_its_own_translation(self):
         calls = (piece(0, 5), piece(1, 6), send(0, 1), back(0, (1, 7), (0, 8)))
-        self.assertEqual(translation_of(1, 1, *calls), 7)
-        self.assertEqual(translation_of(0, 1, *calls), 8)
+        self.assertEqual(translation_of(1, *calls), 7)
+        self.assertEqual(translation_of(0, *calls), 8)
 
     def test_packages_of_other_pieces_in_whatever_order(self):
         start = (piece(0, 5), piece(1, 6), piece(2, 7), send(0), send(1), send(2), put(1, 3))
@@ -222,7 +224,7 @@ class SeveralTest(unittest.TestCase):
             calls = (*start, *[coming[number] for number in order])
             self.assertEqual(ask(*calls)[len(start):], [outcomes[number] for number in order])
             self.assertEqual(stands(*calls), [3, 3, 1])
-            self.assertEqual([translation_of(name, 3, *calls) for name in range(3)], [7, 3, 9])
+            self.assertEqual([translation_of(name, *calls) for name in range(3)], [7, 3, 9])
 
     def test_packages_of_the_same_piece_in_another_order(self):
         start = (piece(1, 5), send(1), send(1))

@@ -29,10 +29,31 @@ METHODS = set(
 )
 TWO_UNDERSCORES = ("__init__", "__eq__", "__repr__", "__str__", "__len__")
 UNUSED_NAMES = ("register", "mro", "elements", "open", "input", "version_info", "with_traceback", "add_note")
+NOT_AS_NAMES = set(
+    "attrgetter breakpoint builtins compile copyright credits delattr dir eval exec exit gc getattr globals hasattr "
+    "help id importlib license locals methodcaller os quit setattr super type vars sys".split()
+)
+# What a method and what a value of an object may be called although Python's own values have it.
+FREE_METHODS = METHODS | {"add", "discard"} | set(TWO_UNDERSCORES)
+FREE_VALUES = set("count index title find get join lower upper split strip copy add".split())
+WALKED = ("zip", "enumerate", "reversed", "range", "items", "keys", "values")
+WALKING = ("list", "tuple", "dict", "sorted", "sum", "any", "all", "enumerate", "zip", "min", "max")
 UNUSED_WORDS = re.compile(
     r"\b(type|typing|typing_extensions|enum|Enum|IntEnum|StrEnum|Flag|IntFlag|Generic|Protocol|ABC|ABCMeta|"
     r"namedtuple|NamedTuple|TypedDict|TYPE_CHECKING|abstractmethod)\b|dataclass|overload|contextmanager"
 )
+
+
+def python_s_own():
+    """What Python's own texts, numbers, lists, dicts, sets and bytes have as a method or a value."""
+    return {name for kind in (str, int, list, tuple, dict, set, frozenset, bytes) for name in dir(kind)}
+
+
+def called_name(node):
+    """What a call calls, without what stands before the dot; None where it's no call."""
+    if not isinstance(node, ast.Call):
+        return None
+    return node.func.attr if isinstance(node.func, ast.Attribute) else node.func.id
 
 
 def sources():
@@ -99,6 +120,8 @@ class LanguageTest(unittest.TestCase):
         for name, node in nodes():
             for given in self.names_of(node):
                 self.assertNotIn(given, UNUSED_NAMES)
+                if not isinstance(node, ast.Attribute):
+                    self.assertNotIn(given, NOT_AS_NAMES)
                 if given not in TWO_UNDERSCORES:
                     self.assertRegex(given, r"^[A-Za-z][A-Za-z0-9_]*$")
             if isinstance(node, ast.Name) and hasattr(builtins, node.id):
@@ -131,6 +154,43 @@ class LanguageTest(unittest.TestCase):
                 values.add(node.attr)
         self.assertEqual(called - own_methods - METHODS, set())
         self.assertEqual(own_methods & values, set())
+        self.assertEqual((own_methods - FREE_METHODS) & python_s_own(), set())
+        self.assertEqual((values - FREE_VALUES) & python_s_own(), set())
+
+    def test_values_are_given_through_a_local_name(self):
+        for name, node in nodes():
+            if isinstance(node, ast.Attribute) and isinstance(node.ctx, ast.Store):
+                self.assertIsInstance(node.value, ast.Name, (name, node.lineno))
+                self.assertTrue(node.value.id.islower(), (name, node.lineno))
+
+    def test_walked_on_the_spot(self):
+        for name, node in nodes():
+            for part in ast.iter_child_nodes(node):
+                if called_name(part) in WALKED:
+                    behind_in = isinstance(node, (ast.For, ast.comprehension)) and part is node.iter
+                    self.assertTrue(behind_in or called_name(node) in WALKING, (name, part.lineno))
+
+    def test_the_top_of_a_module_binds_each_name_once(self):
+        for path in sources():
+            bound = []
+            for node in ast.parse(path.read_text("utf-8")).body:
+                self.assertIsInstance(node, (ast.Expr, ast.ImportFrom, ast.Assign, ast.FunctionDef, ast.ClassDef))
+                if isinstance(node, ast.Expr):
+                    self.assertIsInstance(node.value, ast.Constant)
+                if isinstance(node, ast.Assign):
+                    ast.literal_eval(node.value)
+                    bound.append(node.targets[0].id)
+                if isinstance(node, (ast.FunctionDef, ast.ClassDef)):
+                    bound.append(node.name)
+            self.assertEqual(len(set(bound)), len(bound))
+
+    def test_a_class_has_each_method_once_and_nothing_else(self):
+        for name, node in nodes():
+            if isinstance(node, ast.ClassDef):
+                self.assertEqual(node.decorator_list + node.bases, [])
+                methods = [one for one in node.body if not isinstance(one, ast.Expr)]
+                self.assertEqual([one for one in methods if not isinstance(one, ast.FunctionDef)], [])
+                self.assertEqual(len({one.name for one in methods}), len(methods))
 
     def test_is_stands_beside_none_true_and_false(self):
         for name, node in nodes():
